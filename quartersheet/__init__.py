@@ -1,0 +1,1 @@
+"""Pictures as quarters of quarters."""
