@@ -1,6 +1,6 @@
 """Whole numbers, levels, colours, sides and codes: what is one, and the refusal of what is none."""
 
-from quartersheet.errors import NoCode, NoLevel, NoSide
+from quartersheet.errors import NoCode, NoColour, NoLevel, NoSide
 
 MOST = 40
 LAST_COLOUR = 35
@@ -39,6 +39,16 @@ def need_level(level, least=0):
 def need_code(code):
     if not is_code(code):
         raise NoCode("no code")
+
+
+def need_code_within(code, level):
+    if not is_code(code) or len(code) > level:
+        raise NoCode("no code, or one of too many signs for the level")
+
+
+def need_colour(colour):
+    if not is_colour(colour):
+        raise NoColour("no colour")
 
 
 def need_side(side):

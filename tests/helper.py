@@ -1,6 +1,7 @@
 """What several test files need."""
 
 import copy
+import random
 
 from quartersheet import errors
 
@@ -65,3 +66,130 @@ def assert_refused(test, refusal, deed, *given):
     else:
         test.fail(f"{deed} of {given!r} was not refused but answered {answer!r}")
     test.assertEqual(given, before)
+
+
+NO_COLOURS = ODD + TEXTS + [-THIRTY, -35, -1, 36, 37, 40, 41, THIRTY]
+
+
+def no_places(level):
+    wide = 2 ** level
+    return ODD + TEXTS + [-THIRTY, -wide, -1, wide, wide + 1, THIRTY]
+
+
+def answer_of(test, deed, *given):
+    # The answer; and what was handed in must stay as it was.
+    before = copy.deepcopy(given)
+    answer = deed(*given)
+    test.assertEqual(given, before)
+    return answer
+
+
+def assert_own_list(test, deed, *given):
+    # What is done to a list that was told changes neither what was handed in nor what is told later.
+    before = copy.deepcopy(given)
+    first = deed(*given)
+    test.assertIs(type(first), list)
+    kept = copy.deepcopy(first)
+    first.append(("spoilt", 99))
+    first[0] = None
+    test.assertEqual(given, before)
+    second = deed(*given)
+    test.assertEqual(second, kept)
+    second.clear()
+    test.assertEqual(given, before)
+    test.assertEqual(deed(*given), kept)
+
+
+# A plain picture is a dict from places (x, y) to colours; what follows knows the document's words
+# alone, nothing of the program, and goes place by place.
+
+def places_of(code, level):
+    # Halves are chosen anew at each sign.
+    left, top, wide = 0, 0, 2 ** level
+    for sign in code:
+        wide //= 2
+        left += wide if sign in "13" else 0
+        top += wide if sign in "23" else 0
+    return [(x, y) for x in range(left, left + wide) for y in range(top, top + wide)]
+
+
+def picture_of(sheet):
+    level, tree = sheet
+    picture = {}
+    for place in places_of("", level):
+        part, (x, y) = tree, place
+        wide = 2 ** level
+        while isinstance(part, tuple):
+            wide //= 2
+            part = part[(y >= wide) * 2 + (x >= wide)]
+            x, y = x % wide, y % wide
+        picture[place] = part
+    return picture
+
+
+def sheet_from(level, picture):
+    def tree_of_square(code):
+        colours = {picture[place] for place in places_of(code, level)}
+        if len(colours) == 1:
+            return colours.pop()
+        return tuple(tree_of_square(code + sign) for sign in "0123")
+    return (level, tree_of_square(""))
+
+
+def leaves_from(sheet):
+    # A square is a leaf where it has one colour and the square of which it is a quarter has several.
+    level = sheet[0]
+    picture = picture_of(sheet)
+    row = []
+    for code in codes_up_to(level):
+        colours = {picture[place] for place in places_of(code, level)}
+        around = {picture[place] for place in places_of(code[:-1], level)}
+        if len(colours) == 1 and (code == "" or len(around) > 1):
+            row.append((code, colours.pop()))
+    return sorted(row)
+
+
+def drawn(level, seed, colours=3, strokes=4):
+    # Squares of several sizes, drawn over one another, on ground 0; the same ones for one seed.
+    chance = random.Random(seed)
+    picture = {place: 0 for place in places_of("", level)}
+    for stroke in range(strokes):
+        code = "".join(chance.choice("0123") for sign in range(chance.randint(0, level)))
+        colour = chance.randrange(colours)
+        for place in places_of(code, level):
+            picture[place] = colour
+    return sheet_from(level, picture)
+
+
+def speckled(level, seed, colours=2):
+    chance = random.Random(seed)
+    return sheet_from(level, {place: chance.randrange(colours) for place in places_of("", level)})
+
+
+def small_sheets(most=4):
+    sheets = []
+    for level in range(most + 1):
+        sheets += [(level, 0), (level, 35)]
+        sheets += [drawn(level, seed, 3, 2 + 3 * seed) for seed in range(4)]
+        sheets += [speckled(level, 9)]
+    return sheets
+
+
+def pairs_of_small_sheets(most=4):
+    return [(one, other) for one in small_sheets(most) for other in small_sheets(most) if one[0] == other[0]]
+
+
+def spot(level, code, colour, ground):
+    # One square on a ground of another colour, at any level.
+    tree = colour
+    for sign in reversed(code):
+        tree = tuple(tree if quarter == sign else ground for quarter in "0123")
+    return (level, tree)
+
+
+def chequered(level, depth, first, second):
+    # 4 ** depth leaves, each of another colour than those at its sides.
+    tree = (first, second, second, first)
+    for step in range(depth - 1):
+        tree = (tree, tree, tree, tree)
+    return (level, tree)

@@ -3,7 +3,7 @@ import unittest
 from quartersheet.codes import beside, code_at, code_of, common, corner, holds, numbered
 from quartersheet.errors import NoCode, NoLevel, NoPlace, NoSide
 from tests.helper import (
-    NO_CODES, NO_LEVELS, NO_SIDES, ODD, SIDES, TEXTS, THIRTY, assert_refused, codes_of_length, codes_up_to,
+    NO_CODES, NO_LEVELS, NO_SIDES, ODD, SIDES, TEXTS, THIRTY, assert_refused, codes_of_length, codes_up_to, places_of,
 )
 
 LAST = 2 ** 40 - 1
@@ -11,16 +11,6 @@ HALF = 2 ** 39
 GOES = {"up": (0, -1), "right": (1, 0), "down": (0, 1), "left": (-1, 0)}
 BACK = {"up": "down", "right": "left", "down": "up", "left": "right"}
 LONG = "0123" * 10
-
-
-def places_of(code, level):
-    # By the words of the document: halves are chosen anew at each sign.
-    left, top, wide = 0, 0, 2 ** level
-    for sign in code:
-        wide //= 2
-        left += wide if sign in "13" else 0
-        top += wide if sign in "23" else 0
-    return [(x, y) for x in range(left, left + wide) for y in range(top, top + wide)]
 
 
 class Corner(unittest.TestCase):

@@ -42,6 +42,15 @@ def bound_at_top(tree):
     return names
 
 
+def imported(tree):
+    return [name.name for node in tree.body if isinstance(node, ast.ImportFrom) for name in node.names]
+
+
+def drawn_from(path):
+    tree = ast.parse(path.read_text(encoding="utf-8"))
+    return [node.module.split(".")[1] for node in tree.body if isinstance(node, ast.ImportFrom)]
+
+
 class Form(unittest.TestCase):
     def each(self):
         for path in files():
@@ -89,6 +98,41 @@ class Form(unittest.TestCase):
             for name in node.names:
                 self.assertIsNone(name.asname)
                 self.assertIn(name.name, defined)
+
+    def test_no_two_files_draw_from_one_another(self):
+        left = {path.stem: drawn_from(path) for path in files()}
+        while left:
+            free = [name for name in left if not set(left[name]) & set(left)]
+            self.assertNotEqual(free, [], left)
+            for name in free:
+                del left[name]
+
+    def test_no_parameter_and_no_local_bears_the_name_of_an_import_or_class(self):
+        for path, text, tree in self.each():
+            taken = imported(tree) + [node.name for node in tree.body if isinstance(node, ast.ClassDef)]
+            for node in ast.walk(tree):
+                if isinstance(node, ast.arg):
+                    self.assertNotIn(node.arg, taken)
+                if isinstance(node, ast.Name) and isinstance(node.ctx, ast.Store):
+                    self.assertNotIn(node.id, taken)
+
+    def test_lists_and_dicts_at_the_top(self):
+        for path, text, tree in self.each():
+            for node in tree.body:
+                if isinstance(node, ast.Assign) and isinstance(node.value, (ast.List, ast.Dict)):
+                    inner = [part for part in ast.walk(node.value) if isinstance(part, (ast.List, ast.Dict))]
+                    self.assertEqual(inner, [node.value])
+
+    def test_comprehensions_and_annotations(self):
+        for path, node in self.nodes(ast.ListComp):
+            self.assertEqual(len(node.generators), 1)
+            self.assertLessEqual(len(node.generators[0].ifs), 1)
+        for path, node in self.nodes(ast.arg):
+            self.assertIsNone(node.annotation)
+        for path, node in self.nodes(ast.FunctionDef):
+            self.assertIsNone(node.returns)
+            for default in node.args.defaults:
+                self.assertIsInstance(default, ast.Constant)
 
     def test_nothing_outside_the_small_language(self):
         for path, node in self.nodes(OUT):

@@ -1,0 +1,29 @@
+"""The names and arguments of the interface, as far as its modules are there."""
+
+import importlib
+import inspect
+import unittest
+
+FUNCTIONS = {
+    "kinds": ["is_whole(thing)", "is_level(thing)", "is_colour(thing)", "is_code(thing)"],
+    "codes": [
+        "corner(code, level)", "code_at(x, y, level)", "beside(code, side)", "holds(code, other)", "numbered(code)",
+        "code_of(number)", "common(code, other, level)",
+    ],
+    "sheets": [
+        "is_sheet(thing)", "plain(level, colour)", "joined(a, b, c, d)", "quarters(sheet)", "colour_at(sheet, x, y)",
+    ],
+    "painting": ["painted(sheet, code, colour)", "unlike(one, other)"],
+    "leaves": [
+        "leaves(sheet)", "leaf_at(sheet, x, y)", "sheet_of(level, cover)", "settled(cover)", "areas(sheet)",
+    ],
+}
+
+
+class Interface(unittest.TestCase):
+    def test_names_and_arguments(self):
+        for module, rows in FUNCTIONS.items():
+            found = importlib.import_module("quartersheet." + module)
+            for row in rows:
+                name = row.partition("(")[0]
+                self.assertEqual(name + str(inspect.signature(getattr(found, name))), row)
