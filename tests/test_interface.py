@@ -17,6 +17,16 @@ FUNCTIONS = {
     "leaves": [
         "leaves(sheet)", "leaf_at(sheet, x, y)", "sheet_of(level, cover)", "settled(cover)", "areas(sheet)",
     ],
+    "mixing": [
+        "mapped(sheet, turned)", "mixed(one, other, table)", "over(lower, upper, clear)",
+        "chosen(mask, colour, one, other)",
+    ],
+    "rowwise": ["row_mapped(row, turned)", "row_mixed(row, other, table)", "row_turned(row)"],
+    "turning": ["turned_left(sheet)", "mirrored(sheet)", "swapped(sheet)"],
+    "cutting": [
+        "part_at(sheet, code)", "put_in(sheet, code, other)", "window(sheet, x, y, level, colour)",
+        "laid(sheet, x, y, other)",
+    ],
 }
 
 
