@@ -2,6 +2,7 @@
 
 import copy
 import random
+import time
 
 from quartersheet import errors
 
@@ -76,6 +77,14 @@ def no_places(level):
     return ODD + TEXTS + [-THIRTY, -wide, -1, wide, wide + 1, THIRTY]
 
 
+def assert_needs_a_place(test, deed, sheets):
+    for sheet in sheets:
+        for thing in no_places(sheet[0]):
+            assert_refused(test, errors.NoPlace, deed, sheet, thing, 0)
+            assert_refused(test, errors.NoPlace, deed, sheet, 0, thing)
+            assert_refused(test, errors.NoPlace, deed, sheet, thing, thing)
+
+
 def answer_of(test, deed, *given):
     # The answer; and what was handed in must stay as it was.
     before = copy.deepcopy(given)
@@ -84,20 +93,38 @@ def answer_of(test, deed, *given):
     return answer
 
 
+def lists_within(thing):
+    # The thing itself, where it is a list, and all lists that lie in it, also within tuples.
+    found = [thing] if isinstance(thing, list) else []
+    for part in thing if isinstance(thing, (list, tuple)) else []:
+        found += lists_within(part)
+    return found
+
+
 def assert_own_list(test, deed, *given):
     # What is done to a list that was told changes neither what was handed in nor what is told later.
     before = copy.deepcopy(given)
     first = deed(*given)
     test.assertIs(type(first), list)
     kept = copy.deepcopy(first)
-    first.append(("spoilt", 99))
-    first[0] = None
+    for told in lists_within(first):
+        told.append(("spoilt", 99))
+        told[0] = None
     test.assertEqual(given, before)
     second = deed(*given)
     test.assertEqual(second, kept)
-    second.clear()
+    for told in lists_within(second):
+        told.clear()
     test.assertEqual(given, before)
     test.assertEqual(deed(*given), kept)
+
+
+def answer_in_short(test, deed, *given):
+    # Far longer than it should take, but far shorter than what compares each two of some thousand leaves.
+    begin = time.process_time()
+    answer = deed(*given)
+    test.assertLess(time.process_time() - begin, 5)
+    return answer
 
 
 # A plain picture is a dict from places (x, y) to colours; what follows knows the document's words
@@ -149,6 +176,39 @@ def leaves_from(sheet):
     return sorted(row)
 
 
+BY_SIDES = {"up": (0, -1), "right": (1, 0), "down": (0, 1), "left": (-1, 0)}
+
+
+def places_beside(place):
+    return {side: (place[0] + across, place[1] + down) for side, (across, down) in BY_SIDES.items()}
+
+
+def leaf_by_place(sheet):
+    return {place: code for code, colour in leaves_from(sheet) for place in places_of(code, sheet[0])}
+
+
+def contacts(sheet):
+    # For (code, side, other) of leaves: how many places of the one have the other beyond that side.
+    leaf_of = leaf_by_place(sheet)
+    found = {}
+    for place, code in leaf_of.items():
+        for side, near in places_beside(place).items():
+            if near in leaf_of and leaf_of[near] != code:
+                found[(code, side, leaf_of[near])] = found.get((code, side, leaf_of[near]), 0) + 1
+    return found
+
+
+def land_with(picture, place):
+    # All places to which a way of one colour leads.
+    land, left = {place}, [place]
+    while left:
+        for near in places_beside(left.pop()).values():
+            if near in picture and near not in land and picture[near] == picture[place]:
+                land.add(near)
+                left.append(near)
+    return land
+
+
 def drawn(level, seed, colours=3, strokes=4):
     # Squares of several sizes, drawn over one another, on ground 0; the same ones for one seed.
     chance = random.Random(seed)
@@ -179,12 +239,28 @@ def pairs_of_small_sheets(most=4):
     return [(one, other) for one in small_sheets(most) for other in small_sheets(most) if one[0] == other[0]]
 
 
+def from_rows(*rows):
+    # A picture by hand: colours 0 to 9, one text for each y.
+    level = len(rows).bit_length() - 1
+    return sheet_from(level, {(x, y): int(rows[y][x]) for x, y in places_of("", level)})
+
+
 def spot(level, code, colour, ground):
     # One square on a ground of another colour, at any level.
     tree = colour
     for sign in reversed(code):
         tree = tuple(tree if quarter == sign else ground for quarter in "0123")
     return (level, tree)
+
+
+def snake():
+    # Level 6: a way of colour 1, one place wide, to and fro through all the sheet, with rows of 0 between;
+    # each of the 4096 places is a leaf.
+    rows = []
+    for y in range(64):
+        bend = 63 if y % 4 == 1 else 0
+        rows.append("".join("1" if y % 2 == 0 or x == bend else "0" for x in range(64)))
+    return from_rows(*rows)
 
 
 def chequered(level, depth, first, second):

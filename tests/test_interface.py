@@ -27,6 +27,9 @@ FUNCTIONS = {
         "part_at(sheet, code)", "put_in(sheet, code, other)", "window(sheet, x, y, level, colour)",
         "laid(sheet, x, y, other)",
     ],
+    "beyond": ["beyond(sheet, code, side)", "touches(sheet)"],
+    "lands": ["lands(sheet)", "rim(sheet, x, y)"],
+    "steps": ["steps_from(sheet, x, y)", "way_between(sheet, x, y, to_x, to_y)"],
 }
 
 
