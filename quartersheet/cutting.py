@@ -2,15 +2,8 @@
 
 from quartersheet.codes import width_of
 from quartersheet.errors import NoLevel
-from quartersheet.kinds import is_level, need_code_within, need_colour
+from quartersheet.kinds import need_code_within, need_colour, need_small_level
 from quartersheet.trees import gathered, parted, planted, tree_at
-
-MOST_SMALL = 6
-
-
-def need_small_level(level):
-    if not is_level(level) or level > MOST_SMALL:
-        raise NoLevel("no level from 0 to 6")
 
 
 def part_at(sheet, code):

@@ -3,6 +3,7 @@
 from quartersheet.errors import NoCode, NoColour, NoLevel, NoSide
 
 MOST = 40
+MOST_SMALL = 6
 LAST_COLOUR = 35
 SIDES = ("up", "right", "down", "left")
 QUARTERS = "0123"
@@ -34,6 +35,11 @@ def is_code(thing):
 def need_level(level, least=0):
     if not is_level(level) or level < least:
         raise NoLevel("no level, or one too low for the code")
+
+
+def need_small_level(level):
+    if not is_level(level) or level > MOST_SMALL:
+        raise NoLevel("no level from 0 to 6")
 
 
 def need_code(code):

@@ -29,6 +29,21 @@ ODD = [
 TEXTS = ["", "0", "3", "12", "40", "-1", "up", "text", " ", "\t", "\n"]
 WHOLES = [-THIRTY, -1, 0, 1, 2, 12, 35, 36, 40, 41, THIRTY]
 
+# One word each that is no text of a sheet; then texts of several words and rows.
+NO_TEXT_WORDS = [
+    "", "0", "2", "+", ":", "::", "0:", "1:", "40:", ":0", ":+0123", "00:0", "01:0", "07:0", "040:0", "000:0", "41:0",
+    "42:0", "50:0", "99:0", "100:0", "400:0", "1" * 30 + ":0", "9" * 4000 + ":0", "-1:0", "+1:0", "-0:0", "1-:0",
+    "1_0:0", "1.0:0", "a:0", "1a:0", "0x1:0", "1::0", "1:0:", "1:0:0", "1:+01:23", "1;0", "10", "1+0123", "0:+0123",
+    "0:+0000", "1:++00000123", "1:+0+0000000", "2:+012++0123012", "1:+", "1:+0", "1:+012", "2:++0123", "2:++012301",
+    "2:+012+012", "0:00", "1:00", "1:+01230", "1:+0123+0123", "2:+0+10012b0", "0:A", "1:Z", "1:+01B3", "1:-", "1:*",
+    "1:+01-3", "1:+01~3", "1:+01,3", "1:(0,1,2,3)", "40:" + "+" * 41 + "0" * 124, "40:" + "+" * 40, "40:" + "+" * 4000,
+    "6:" + "0" * 4000, "0:0;", "1:1.",
+]
+NO_TEXTS = NO_TEXT_WORDS + [
+    " ", " 1:0", "1 :0", "1: 0", "1:0 ", "1:+01 23", "1:+ 0123", "1:+012 ", "0: ", "\t1:0", "1:0\n", "\n1:0",
+    "1:+012\n3",
+]
+
 # Texts with one sign that is none of 0 to 3, at the first, a middle and the last place.
 BAD_SIGNS = [
     "0123"[:at] + sign + "0123"[at:]
@@ -140,6 +155,14 @@ def places_of(code, level):
     return [(x, y) for x in range(left, left + wide) for y in range(top, top + wide)]
 
 
+def place_of(code):
+    # The place that has this code, in a sheet whose level is the number of its signs.
+    x, y = 0, 0
+    for sign in code:
+        x, y = 2 * x + (sign in "13"), 2 * y + (sign in "23")
+    return x, y
+
+
 def picture_of(sheet):
     level, tree = sheet
     picture = {}
@@ -209,6 +232,98 @@ def land_with(picture, place):
     return land
 
 
+def lands_from(sheet):
+    # For each land its colour and the codes of its leaves in their order.
+    picture = picture_of(sheet)
+    leaf_of = leaf_by_place(sheet)
+    left, found = set(picture), []
+    while left:
+        place = min(left)
+        land = land_with(picture, place)
+        left -= land
+        found.append((sorted({leaf_of[other] for other in land}), picture[place]))
+    return [(colour, codes) for codes, colour in sorted(found)]
+
+
+def rim_from(picture, place):
+    land = land_with(picture, place)
+    return sum(near not in land for one in land for near in places_beside(one).values())
+
+
+def steps_between_leaves(sheet):
+    # For each leaf and each leaf of its land: the steps, as the waves of ever one step more come to them.
+    colours = dict(leaves_from(sheet))
+    near = {code: [] for code in colours}
+    for code, side, other in contacts(sheet):
+        if colours[code] == colours[other]:
+            near[code].append(other)
+    found = {}
+    for first in colours:
+        wave, steps, found[first] = [first], 0, {}
+        while wave:
+            for code in wave:
+                found[first][code] = steps
+            wave = sorted({other for code in wave for other in near[code] if other not in found[first]})
+            steps += 1
+    return found
+
+
+def sides_round(land):
+    # The sides of single places beyond which no place of the land lies: from where, to where, round which place.
+    sides = []
+    for x, y in sorted(land):
+        corners = [(x, y), (x + 1, y), (x + 1, y + 1), (x, y + 1)]
+        for at, near in enumerate(places_beside((x, y)).values()):
+            if near not in land:
+                sides.append((corners[at], corners[(at + 1) % 4], (x, y)))
+    return sides
+
+
+def by_rows(point):
+    return (point[1], point[0])
+
+
+def rings_from(picture, place):
+    sides = sides_round(land_with(picture, place))
+    going = {}
+    for side in sides:
+        going.setdefault(side[0], []).append(side)
+    rings = []
+    while sides:
+        ring = []
+        side = sides[0]
+        while side not in ring:
+            ring.append(side)
+            ahead = going[side[1]]
+            side = ahead[0] if len(ahead) == 1 else [one for one in ahead if one[2] == side[2]][0]
+        sides = [one for one in sides if one not in ring]
+        ways = [(to[0] - at[0], to[1] - at[1]) for at, to, around in ring]
+        points = [ring[at][0] for at in range(len(ring)) if ways[at] != ways[at - 1]]
+        first = points.index(min(points, key=by_rows))
+        rings.append(points[first:] + points[:first])
+    return sorted(rings, key=lambda ring: by_rows(ring[0]))
+
+
+def coarsened(level, picture, number):
+    # The picture of a level less by the number.
+    size, found = 2 ** number, {}
+    for x, y in places_of("", level - number):
+        colours = [picture[(x * size + i, y * size + j)] for i in range(size) for j in range(size)]
+        found[(x, y)] = min(set(colours), key=lambda colour: (-colours.count(colour), colour))
+    return found
+
+
+ALL_SIGNS = "0123456789abcdefghijklmnopqrstuvwxyz"
+
+
+def text_from(sheet):
+    level, tree = sheet
+
+    def signs_of(part):
+        return "+" + "".join(signs_of(quarter) for quarter in part) if isinstance(part, tuple) else ALL_SIGNS[part]
+    return f"{level}:{signs_of(tree)}"
+
+
 def drawn(level, seed, colours=3, strokes=4):
     # Squares of several sizes, drawn over one another, on ground 0; the same ones for one seed.
     chance = random.Random(seed)
@@ -243,6 +358,19 @@ def from_rows(*rows):
     # A picture by hand: colours 0 to 9, one text for each y.
     level = len(rows).bit_length() - 1
     return sheet_from(level, {(x, y): int(rows[y][x]) for x, y in places_of("", level)})
+
+
+# Lands within lands, of two colours by turns.
+WITHIN = from_rows(
+    "00000000",
+    "01111110",
+    "01000010",
+    "01011010",
+    "01011010",
+    "01000010",
+    "01111110",
+    "00000000",
+)
 
 
 def spot(level, code, colour, ground):

@@ -1,4 +1,4 @@
-"""The names and arguments of the interface, as far as its modules are there."""
+"""The names and arguments of the interface."""
 
 import importlib
 import inspect
@@ -30,6 +30,10 @@ FUNCTIONS = {
     "beyond": ["beyond(sheet, code, side)", "touches(sheet)"],
     "lands": ["lands(sheet)", "rim(sheet, x, y)"],
     "steps": ["steps_from(sheet, x, y)", "way_between(sheet, x, y, to_x, to_y)"],
+    "rings": ["rings(sheet, x, y)"],
+    "texts": ["written(sheet)", "read(text)", "rows_of(sheet)", "sheet_of_rows(rows)"],
+    "scaling": ["finer(sheet, number)", "coarser(sheet, number)"],
+    "desk": ["Desk()"],
 }
 
 
@@ -40,3 +44,7 @@ class Interface(unittest.TestCase):
             for row in rows:
                 name = row.partition("(")[0]
                 self.assertEqual(name + str(inspect.signature(getattr(found, name))), row)
+
+    def test_the_desk(self):
+        desk = importlib.import_module("quartersheet.desk").Desk()
+        self.assertEqual(str(inspect.signature(desk.say)), "(row)")

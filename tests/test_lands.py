@@ -5,44 +5,18 @@ from quartersheet.codes import common
 from quartersheet.lands import lands, rim
 from quartersheet.leaves import leaves
 from tests.helper import (
-    answer_in_short, answer_of, assert_needs_a_place, assert_own_list, chequered, contacts, drawn, from_rows,
-    land_with, leaf_by_place, leaves_from, picture_of, places_beside, small_sheets, snake, speckled, spot,
+    WITHIN, answer_in_short, answer_of, assert_needs_a_place, assert_own_list, chequered, contacts, drawn, from_rows,
+    lands_from, leaves_from, picture_of, place_of, rim_from, small_sheets, snake, speckled, spot,
 )
 
 LONG = "0123" * 10
 LAST = 2 ** 40 - 1
 FOUR = (0, 1, 2, 3)
-WITHIN = from_rows(
-    "00000000",
-    "01111110",
-    "01000010",
-    "01011010",
-    "01011010",
-    "01000010",
-    "01111110",
-    "00000000",
-)
 
 
 def sheets_to_ask():
     more = [drawn(4, seed, 2, 14) for seed in range(20, 26)] + [speckled(3, seed, 2) for seed in range(4)]
     return small_sheets() + more + [WITHIN]
-
-
-def lands_by_places(sheet):
-    # For each land its colour and the codes of its leaves in their order.
-    picture = picture_of(sheet)
-    leaf_of = leaf_by_place(sheet)
-    found = set()
-    for place in picture:
-        codes = {leaf_of[other] for other in land_with(picture, place)}
-        found.add((tuple(sorted(codes)), picture[place]))
-    return [(colour, list(codes)) for codes, colour in sorted(found)]
-
-
-def rim_by_places(picture, place):
-    land = land_with(picture, place)
-    return sum(near not in land for one in land for near in places_beside(one).values())
 
 
 class Lands(unittest.TestCase):
@@ -93,13 +67,13 @@ class Lands(unittest.TestCase):
         ])
 
     def test_lands_within_lands(self):
-        self.assert_lands(WITHIN, lands_by_places(WITHIN))
+        self.assert_lands(WITHIN, lands_from(WITHIN))
         told = [(colour, len(members)) for colour, members in lands(WITHIN)]
         self.assertEqual(told, [(0, 28), (1, 20), (0, 12), (1, 4)])
 
     def test_by_places(self):
         for sheet in sheets_to_ask():
-            self.assert_lands(sheet, lands_by_places(sheet))
+            self.assert_lands(sheet, lands_from(sheet))
 
     def test_each_leaf_once_in_just_one_land(self):
         for sheet in sheets_to_ask() + [spot(40, LONG, 1, 0), chequered(40, 4, 1, 2), (40, FOUR)]:
@@ -142,7 +116,7 @@ class Rim(unittest.TestCase):
     def test_one_place(self):
         self.assertEqual(answer_of(self, rim, (0, 5), 0, 0), 4)
         self.assertEqual(rim(spot(2, "03", 1, 0), 1, 1), 4)
-        self.assertEqual(rim(spot(40, LONG, 1, 0), *spot_place(LONG)), 4)
+        self.assertEqual(rim(spot(40, LONG, 1, 0), *place_of(LONG)), 4)
 
     def test_plain_sheets(self):
         for level in [0, 1, 3, 40]:
@@ -174,12 +148,12 @@ class Rim(unittest.TestCase):
         for sheet in sheets_to_ask():
             picture = picture_of(sheet)
             for place in sorted(picture)[::3]:
-                self.assertEqual(answer_of(self, rim, sheet, *place), rim_by_places(picture, place))
+                self.assertEqual(answer_of(self, rim, sheet, *place), rim_from(picture, place))
 
     def test_each_place_of_a_land_tells_the_same(self):
         picture = picture_of(WITHIN)
         for place in picture:
-            self.assertEqual(rim(WITHIN, *place), rim_by_places(picture, place))
+            self.assertEqual(rim(WITHIN, *place), rim_from(picture, place))
 
     def test_level_40(self):
         sheet = spot(40, LONG, 1, 0)
@@ -198,7 +172,7 @@ class Rim(unittest.TestCase):
             for colour, members in lands(sheet):
                 codes = [code for code, other in members]
                 outer = [pair for pair in near if (pair[0] in codes) != (pair[1] in codes)]
-                told = rim(sheet, *spot_place(codes[0].ljust(sheet[0], "0")))
+                told = rim(sheet, *place_of(codes[0].ljust(sheet[0], "0")))
                 ends = sum(ends_of(code, sheet[0]) for code in codes)
                 self.assertEqual(told, ends + sum(common(one, two, sheet[0]) for one, two in outer))
                 self.assertEqual({colour_of[code] for code in codes}, {colour})
@@ -210,14 +184,6 @@ class Rim(unittest.TestCase):
 
     def test_refusals(self):
         assert_needs_a_place(self, rim, [(0, 0), (1, FOUR), (3, 5), WITHIN, spot(40, "0" * 40, 1, 0)])
-
-
-def spot_place(code):
-    # The place whose code has as many signs as the level tells.
-    x, y = 0, 0
-    for sign in code:
-        x, y = 2 * x + int(sign) % 2, 2 * y + int(sign) // 2
-    return x, y
 
 
 def ends_of(code, level):

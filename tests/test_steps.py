@@ -5,8 +5,8 @@ from quartersheet.errors import NoPlace
 from quartersheet.leaves import leaf_at, leaves
 from quartersheet.steps import steps_from, way_between
 from tests.helper import (
-    answer_in_short, answer_of, assert_needs_a_place, assert_own_list, assert_refused, chequered, contacts, drawn,
-    from_rows, leaf_by_place, leaves_from, no_places, picture_of, small_sheets, snake, speckled, spot,
+    answer_in_short, answer_of, assert_needs_a_place, assert_own_list, assert_refused, chequered, drawn, from_rows,
+    leaf_by_place, no_places, picture_of, small_sheets, snake, speckled, spot, steps_between_leaves,
 )
 
 LONG = "0123" * 10
@@ -30,24 +30,6 @@ UNLIKE = from_rows(
 def sheets_to_ask():
     more = [drawn(4, seed, 2, 14) for seed in range(30, 34)] + [speckled(3, seed, 2) for seed in range(4)]
     return small_sheets() + more + [RING, UNLIKE]
-
-
-def steps_by_places(sheet):
-    # For each two leaves of one land: the steps, as the waves of ever one step more come to them.
-    colours = dict(leaves_from(sheet))
-    near = {code: [] for code in colours}
-    for code, side, other in contacts(sheet):
-        if colours[code] == colours[other]:
-            near[code].append(other)
-    found = {}
-    for first in colours:
-        wave, steps, found[first] = [first], 0, {}
-        while wave:
-            for code in wave:
-                found[first][code] = steps
-            wave = sorted({other for code in wave for other in near[code] if other not in found[first]})
-            steps += 1
-    return found
 
 
 class StepsFrom(unittest.TestCase):
@@ -86,7 +68,7 @@ class StepsFrom(unittest.TestCase):
 
     def test_by_places(self):
         for sheet in sheets_to_ask():
-            expected = steps_by_places(sheet)
+            expected = steps_between_leaves(sheet)
             leaf_of = leaf_by_place(sheet)
             for place in sorted(leaf_of)[::5]:
                 told = answer_of(self, steps_from, sheet, *place)
